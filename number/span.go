@@ -1,0 +1,148 @@
+package number
+
+import (
+	"slices"
+
+	"becket/api"
+)
+
+// decimalsOfPi are the digits of pi without the point.
+const decimalsOfPi = "3141592653589793238462643383279"
+
+// interval is a span that has been read.
+type interval struct {
+	low, high fraction
+}
+
+// CheckSpan returns the first error of a span, or OK.
+func CheckSpan(s api.Span) api.Errno {
+	_, e := readSpan(s)
+	return e
+}
+
+// Plus returns the sum of two spans.
+func Plus(a, b api.Span) (api.Span, api.Errno) {
+	return combineSpans(a, b, fraction.plus)
+}
+
+// Minus returns the difference of two spans.
+func Minus(a, b api.Span) (api.Span, api.Errno) {
+	return combineSpans(a, b, fraction.minus)
+}
+
+// Times returns the product of two spans.
+func Times(a, b api.Span) (api.Span, api.Errno) {
+	return combineSpans(a, b, fraction.times)
+}
+
+// Over returns the quotient of two spans.
+func Over(a, b api.Span) (api.Span, api.Errno) {
+	x, y, e := readSpans(a, b)
+	if e != api.OK {
+		return api.Span{}, e
+	}
+	if y.hasZero() {
+		return api.Span{}, api.ErrZero
+	}
+	return writeSpan(combineIntervals(x, y, fraction.over))
+}
+
+// Compare compares two spans.
+func Compare(a, b api.Span) (int, api.Errno) {
+	x, y, e := readSpans(a, b)
+	switch {
+	case e != api.OK:
+		return 0, e
+	case a == b && a.Low == a.High:
+		return 0, api.OK
+	case x.high.compare(y.low) < 0:
+		return -1, api.OK
+	case x.low.compare(y.high) > 0:
+		return 1, api.OK
+	}
+	return 0, api.ErrOpen
+}
+
+// Root returns a span that contains the root of a number.
+func Root(a api.Rat) (api.Span, api.Errno) {
+	x, e := read(a)
+	if e != api.OK {
+		return api.Span{}, e
+	}
+	if x.top.negative {
+		return api.Span{}, api.ErrRange
+	}
+	if root, ok := exactRoot(x); ok {
+		return writeSpan(interval{root, root})
+	}
+	thousandths := x.times(whole(integerOf(1_000_000))).floor().size.root()
+	return writeSpan(decimalSpan(thousandths, 3))
+}
+
+// Pi returns a span that contains pi, with k decimals.
+func Pi(k int) (api.Span, api.Errno) {
+	if k < 1 || k > MaxDecimals {
+		return api.Span{}, api.ErrRange
+	}
+	return writeSpan(decimalSpan(readNatural(decimalsOfPi[:1+k]), k))
+}
+
+// decimalSpan returns the span of one unit in the last of some decimals that begins with so many units.
+func decimalSpan(units natural, decimals int) interval {
+	scale := signed(false, powerOfTen(decimals))
+	low, high := signed(false, units), signed(false, units.plus(naturalOf(1)))
+	return interval{quotient(low, scale), quotient(high, scale)}
+}
+
+// exactRoot returns the root of a number from 0 on, if it is a number. In lowest terms it is one only if both parts are squares.
+func exactRoot(a fraction) (fraction, bool) {
+	top, bottom := a.top.size.root(), a.bottom.root()
+	exact := top.times(top).compare(a.top.size) == 0 && bottom.times(bottom).compare(a.bottom) == 0
+	return fraction{signed(false, top), bottom}, exact
+}
+
+func combineSpans(a, b api.Span, operation func(x, y fraction) fraction) (api.Span, api.Errno) {
+	x, y, e := readSpans(a, b)
+	if e != api.OK {
+		return api.Span{}, e
+	}
+	return writeSpan(combineIntervals(x, y, operation))
+}
+
+// combineIntervals returns all results of an operation that only rises or only falls with one number as long as the
+// other one stays, so that its least and its greatest result are among those of the ends.
+func combineIntervals(x, y interval, operation func(x, y fraction) fraction) interval {
+	corners := []fraction{
+		operation(x.low, y.low), operation(x.low, y.high),
+		operation(x.high, y.low), operation(x.high, y.high),
+	}
+	return interval{slices.MinFunc(corners, fraction.compare), slices.MaxFunc(corners, fraction.compare)}
+}
+
+func (x interval) hasZero() bool {
+	above := !x.low.top.negative && !x.low.isZero()
+	return !above && !x.high.top.negative
+}
+
+func readSpan(s api.Span) (interval, api.Errno) {
+	low, high, e := readBoth(s.Low, s.High)
+	if e == api.OK && low.compare(high) > 0 {
+		e = api.ErrOrder
+	}
+	return interval{low, high}, e
+}
+
+func readSpans(a, b api.Span) (interval, interval, api.Errno) {
+	x, errorOfX := readSpan(a)
+	y, errorOfY := readSpan(b)
+	return x, y, firstError(errorOfX, errorOfY)
+}
+
+func writeSpan(x interval) (api.Span, api.Errno) {
+	low, errorOfLow := write(x.low)
+	high, errorOfHigh := write(x.high)
+	if e := firstError(errorOfLow, errorOfHigh); e != api.OK {
+		return api.Span{}, e
+	}
+	return api.Span{Low: low, High: high}, api.OK
+}
