@@ -4,14 +4,15 @@ import (
 	"slices"
 
 	"becket/api"
+	"becket/exact"
 )
 
-// ring is what numbers need for elimination; exact divides where there is no remainder.
+// ring is what numbers need for elimination; Exact divides where there is no remainder.
 type ring[T any] interface {
-	times(T) T
-	minus(T) T
-	exact(T) T
-	isZero() bool
+	Times(T) T
+	Minus(T) T
+	Exact(T) T
+	IsZero() bool
 }
 
 // pivot is the place of a number by which its column is cleared in all other rows.
@@ -22,8 +23,8 @@ type pivot struct {
 // dependence has multipliers for which the sum of some rows has zeros alone. They may be divided by any number: unit
 // makes one of them -1, and scale makes all of them sums of products of the numbers in the rows.
 type dependence struct {
-	multipliers []integer
-	unit, scale integer
+	multipliers []exact.Integer
+	unit, scale exact.Integer
 }
 
 // Solve returns the only solution of equations.
@@ -33,15 +34,15 @@ func Solve(m [][]api.Rat, b []api.Rat) ([]api.Rat, api.Errno) {
 		return nil, e
 	}
 	unknowns := len(rows[0])
-	extended := make([][]integer, len(rows))
+	extended := make([][]exact.Integer, len(rows))
 	for i, row := range rows {
 		extended[i], _ = withoutFractions(append(row, list[i]))
 	}
-	pivots, divisor := eliminate(extended, unknowns, integerOf(1))
+	pivots, divisor := eliminate(extended, unknowns, exact.IntegerOf(1))
 	if len(pivots) < unknowns || contradicts(extended, pivots, unknowns) {
 		return nil, api.ErrSingular
 	}
-	solution := make([]integer, unknowns)
+	solution := make([]exact.Integer, unknowns)
 	for _, p := range pivots {
 		solution[p.column] = extended[p.row][unknowns]
 	}
@@ -57,7 +58,7 @@ func Refute(m [][]api.Rat, b []api.Rat) ([]api.Rat, api.Errno) {
 	numbers, _ := withoutFractions(list)
 	result := api.ErrNone
 	for _, found := range dependences(rows) {
-		if product(found.multipliers, numbers).isZero() {
+		if product(found.multipliers, numbers).IsZero() {
 			continue
 		}
 		y, e := found.write()
@@ -82,25 +83,25 @@ func CheckRefute(m [][]api.Rat, b, y []api.Rat) api.Errno {
 	multipliers, _ := withoutFractions(given)
 	for _, column := range columnsOf(rows) {
 		numbers, _ := withoutFractions(column)
-		if !product(multipliers, numbers).isZero() {
+		if !product(multipliers, numbers).IsZero() {
 			return api.ErrProof
 		}
 	}
 	numbers, _ := withoutFractions(list)
-	if product(multipliers, numbers).isZero() {
+	if product(multipliers, numbers).IsZero() {
 		return api.ErrProof
 	}
 	return api.OK
 }
 
-func readEquations(m [][]api.Rat, b []api.Rat) ([][]fraction, []fraction, api.Errno) {
+func readEquations(m [][]api.Rat, b []api.Rat) ([][]exact.Fraction, []exact.Fraction, api.Errno) {
 	if len(m) == 0 {
 		return nil, nil, api.ErrEmpty
 	}
 	if len(m) > MaxEquations || len(m[0]) > MaxEquations {
 		return nil, nil, api.ErrMany
 	}
-	rows := make([][]fraction, len(m))
+	rows := make([][]exact.Fraction, len(m))
 	for i, texts := range m {
 		row, e := readShaped(texts, len(m[0]))
 		if e != api.OK {
@@ -116,29 +117,36 @@ func readEquations(m [][]api.Rat, b []api.Rat) ([][]fraction, []fraction, api.Er
 }
 
 // readShaped returns the numbers of a list that has to have so many.
-func readShaped(texts []api.Rat, length int) ([]fraction, api.Errno) {
+func readShaped(texts []api.Rat, length int) ([]exact.Fraction, api.Errno) {
 	if len(texts) != length {
 		return nil, api.ErrShape
 	}
-	return readList(texts)
+	numbers := make([]exact.Fraction, length)
+	for i, text := range texts {
+		number, e := exact.Read(text)
+		if e != api.OK {
+			return nil, e
+		}
+		numbers[i] = number
+	}
+	return numbers, api.OK
 }
 
 // withoutFractions returns the least multiples of numbers that are integers, and by what they are multiplied.
-func withoutFractions(numbers []fraction) ([]integer, integer) {
-	multiple := naturalOf(1)
+func withoutFractions(numbers []exact.Fraction) ([]exact.Integer, exact.Integer) {
+	factor := exact.IntegerOf(1)
 	for _, number := range numbers {
-		multiple = commonMultiple(multiple, number.bottom)
+		factor = exact.CommonMultiple(factor, number.Bottom())
 	}
-	factor := signed(false, multiple)
-	integers := make([]integer, len(numbers))
+	integers := make([]exact.Integer, len(numbers))
 	for i, number := range numbers {
-		integers[i] = number.top.times(factor.exact(signed(false, number.bottom)))
+		integers[i] = number.Top().Times(factor.Exact(number.Bottom()))
 	}
 	return integers, factor
 }
 
-func columnsOf(rows [][]fraction) [][]fraction {
-	columns := make([][]fraction, len(rows[0]))
+func columnsOf(rows [][]exact.Fraction) [][]exact.Fraction {
+	columns := make([][]exact.Fraction, len(rows[0]))
 	for i := range columns {
 		for _, row := range rows {
 			columns[i] = append(columns[i], row[i])
@@ -148,10 +156,10 @@ func columnsOf(rows [][]fraction) [][]fraction {
 }
 
 // product returns the sum of the products of the numbers at the same places.
-func product(a, b []integer) integer {
-	var sum integer
+func product(a, b []exact.Integer) exact.Integer {
+	var sum exact.Integer
 	for i := range a {
-		sum = sum.plus(a[i].times(b[i]))
+		sum = sum.Plus(a[i].Times(b[i]))
 	}
 	return sum
 }
@@ -183,7 +191,7 @@ func findPivot[T ring[T]](rows [][]T, pivots []pivot, columns int) (pivot, bool)
 search:
 	for column := first; column < columns; column++ {
 		for row := range rows {
-			if !isPivotRow(pivots, row) && !rows[row][column].isZero() {
+			if !isPivotRow(pivots, row) && !rows[row][column].IsZero() {
 				next, found = pivot{row, column}, true
 				break search
 			}
@@ -202,7 +210,7 @@ func clearColumn[T ring[T]](rows [][]T, at pivot, divisor T) {
 		}
 		multiple := row[at.column]
 		for j, number := range row {
-			row[j] = number.times(factor).minus(multiple.times(pivotRow[j])).exact(divisor)
+			row[j] = number.Times(factor).Minus(multiple.Times(pivotRow[j])).Exact(divisor)
 		}
 	}
 }
@@ -216,9 +224,9 @@ func isPivotColumn(pivots []pivot, column int) bool {
 }
 
 // contradicts tells whether a row that is cleared of all unknowns asks for a number other than 0.
-func contradicts(extended [][]integer, pivots []pivot, unknowns int) bool {
+func contradicts(extended [][]exact.Integer, pivots []pivot, unknowns int) bool {
 	for i, row := range extended {
-		if !isPivotRow(pivots, i) && !row[unknowns].isZero() {
+		if !isPivotRow(pivots, i) && !row[unknowns].IsZero() {
 			return true
 		}
 	}
@@ -227,24 +235,24 @@ func contradicts(extended [][]integer, pivots []pivot, unknowns int) bool {
 
 // dependences returns, for each row that depends on rows before it, how it does; all others are sums of multiples of
 // these. So equations have a solution if none of these leads to a contradiction.
-func dependences(rows [][]fraction) []dependence {
+func dependences(rows [][]exact.Fraction) []dependence {
 	columns := columnsOf(rows)
-	scaled, factors := make([][]integer, len(columns)), make([]integer, len(columns))
+	scaled, factors := make([][]exact.Integer, len(columns)), make([]exact.Integer, len(columns))
 	for i, column := range columns {
 		scaled[i], factors[i] = withoutFractions(column)
 	}
-	pivots, unit := eliminate(scaled, len(rows), integerOf(1))
-	scale := integerOf(1)
+	pivots, unit := eliminate(scaled, len(rows), exact.IntegerOf(1))
+	scale := exact.IntegerOf(1)
 	for _, p := range pivots {
-		scale = scale.times(factors[p.row])
+		scale = scale.Times(factors[p.row])
 	}
 	var list []dependence
 	for free := range rows {
 		if isPivotColumn(pivots, free) {
 			continue
 		}
-		multipliers := make([]integer, len(rows))
-		multipliers[free] = unit.negated()
+		multipliers := make([]exact.Integer, len(rows))
+		multipliers[free] = unit.Negated()
 		for _, p := range pivots {
 			multipliers[p.column] = scaled[p.row][free]
 		}
@@ -255,11 +263,11 @@ func dependences(rows [][]fraction) []dependence {
 
 // write returns the multipliers divided by a number with which they fit into the limit of digits, if one is found.
 func (d dependence) write() ([]api.Rat, api.Errno) {
-	var common natural
+	var common exact.Integer
 	for _, multiplier := range d.multipliers {
-		common = commonDivisor(common, multiplier.size)
+		common = exact.CommonDivisor(common, multiplier)
 	}
-	for _, divisor := range []integer{signed(false, common), d.unit, d.scale} {
+	for _, divisor := range []exact.Integer{common, d.unit, d.scale} {
 		if y, e := writeQuotients(d.multipliers, divisor); e == api.OK {
 			return y, api.OK
 		}
@@ -267,10 +275,10 @@ func (d dependence) write() ([]api.Rat, api.Errno) {
 	return nil, api.ErrLarge
 }
 
-func writeQuotients(numbers []integer, divisor integer) ([]api.Rat, api.Errno) {
+func writeQuotients(numbers []exact.Integer, divisor exact.Integer) ([]api.Rat, api.Errno) {
 	texts := make([]api.Rat, len(numbers))
 	for i, number := range numbers {
-		text, e := write(quotient(number, divisor))
+		text, e := exact.Write(exact.Quotient(number, divisor))
 		if e != api.OK {
 			return nil, e
 		}

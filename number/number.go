@@ -4,6 +4,7 @@ package number
 
 import (
 	"becket/api"
+	"becket/exact"
 )
 
 // Limits of tables, equations and decimals.
@@ -34,7 +35,7 @@ func isDigit(letter rune) bool {
 
 // Check returns the first error of a number, or OK.
 func Check(a api.Rat) api.Errno {
-	_, e := read(a)
+	_, e := exact.Read(a)
 	return e
 }
 
@@ -43,22 +44,22 @@ func Of(num, den int) (api.Rat, api.Errno) {
 	if den == 0 {
 		return "", api.ErrZero
 	}
-	return write(quotient(integerOf(num), integerOf(den)))
+	return exact.Write(exact.Quotient(exact.IntegerOf(num), exact.IntegerOf(den)))
 }
 
 // Add returns the sum.
 func Add(a, b api.Rat) (api.Rat, api.Errno) {
-	return combine(a, b, fraction.plus)
+	return combine(a, b, exact.Fraction.Plus)
 }
 
 // Sub returns the difference.
 func Sub(a, b api.Rat) (api.Rat, api.Errno) {
-	return combine(a, b, fraction.minus)
+	return combine(a, b, exact.Fraction.Minus)
 }
 
 // Mul returns the product.
 func Mul(a, b api.Rat) (api.Rat, api.Errno) {
-	return combine(a, b, fraction.times)
+	return combine(a, b, exact.Fraction.Times)
 }
 
 // Div returns the quotient.
@@ -67,10 +68,10 @@ func Div(a, b api.Rat) (api.Rat, api.Errno) {
 	if e != api.OK {
 		return "", e
 	}
-	if y.isZero() {
+	if y.IsZero() {
 		return "", api.ErrZero
 	}
-	return write(x.over(y))
+	return exact.Write(x.Over(y))
 }
 
 // Order compares two numbers.
@@ -79,30 +80,30 @@ func Order(a, b api.Rat) (int, api.Errno) {
 	if e != api.OK {
 		return 0, e
 	}
-	return x.compare(y), api.OK
+	return x.Compare(y), api.OK
 }
 
 // Floor returns the greatest integer that is not above a number.
 func Floor(a api.Rat) (api.Rat, api.Errno) {
-	x, e := read(a)
+	x, e := exact.Read(a)
 	if e != api.OK {
 		return "", e
 	}
-	return write(whole(x.floor()))
+	return exact.Write(exact.Whole(x.Floor()))
 }
 
 // combine returns what an operation without errors of its own makes of two numbers.
-func combine(a, b api.Rat, operation func(x, y fraction) fraction) (api.Rat, api.Errno) {
+func combine(a, b api.Rat, operation func(x, y exact.Fraction) exact.Fraction) (api.Rat, api.Errno) {
 	x, y, e := readBoth(a, b)
 	if e != api.OK {
 		return "", e
 	}
-	return write(operation(x, y))
+	return exact.Write(operation(x, y))
 }
 
-func readBoth(a, b api.Rat) (fraction, fraction, api.Errno) {
-	x, errorOfX := read(a)
-	y, errorOfY := read(b)
+func readBoth(a, b api.Rat) (exact.Fraction, exact.Fraction, api.Errno) {
+	x, errorOfX := exact.Read(a)
+	y, errorOfY := exact.Read(b)
 	return x, y, firstError(errorOfX, errorOfY)
 }
 

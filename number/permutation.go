@@ -4,6 +4,7 @@ import (
 	"iter"
 
 	"becket/api"
+	"becket/exact"
 )
 
 // CheckPerm returns the first error of a permutation, or OK.
@@ -56,11 +57,11 @@ func Period(p []int) (api.Rat, api.Errno) {
 	if e := CheckPerm(p); e != api.OK {
 		return "", e
 	}
-	period := naturalOf(1)
+	period := exact.IntegerOf(1)
 	for _, cycle := range cyclesOf(p) {
-		period = commonMultiple(period, naturalOf(uint64(len(cycle))))
+		period = exact.CommonMultiple(period, exact.IntegerOf(len(cycle)))
 	}
-	return write(whole(signed(false, period)))
+	return exact.Write(exact.Whole(period))
 }
 
 // Power returns a power of a permutation.

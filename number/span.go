@@ -2,8 +2,10 @@ package number
 
 import (
 	"slices"
+	"strings"
 
 	"becket/api"
+	"becket/exact"
 )
 
 // decimalsOfPi are the digits of pi without the point.
@@ -11,7 +13,7 @@ const decimalsOfPi = "3141592653589793238462643383279"
 
 // interval is a span that has been read.
 type interval struct {
-	low, high fraction
+	low, high exact.Fraction
 }
 
 // CheckSpan returns the first error of a span, or OK.
@@ -22,17 +24,17 @@ func CheckSpan(s api.Span) api.Errno {
 
 // Plus returns the sum of two spans.
 func Plus(a, b api.Span) (api.Span, api.Errno) {
-	return combineSpans(a, b, fraction.plus)
+	return combineSpans(a, b, exact.Fraction.Plus)
 }
 
 // Minus returns the difference of two spans.
 func Minus(a, b api.Span) (api.Span, api.Errno) {
-	return combineSpans(a, b, fraction.minus)
+	return combineSpans(a, b, exact.Fraction.Minus)
 }
 
 // Times returns the product of two spans.
 func Times(a, b api.Span) (api.Span, api.Errno) {
-	return combineSpans(a, b, fraction.times)
+	return combineSpans(a, b, exact.Fraction.Times)
 }
 
 // Over returns the quotient of two spans.
@@ -44,7 +46,7 @@ func Over(a, b api.Span) (api.Span, api.Errno) {
 	if y.hasZero() {
 		return api.Span{}, api.ErrZero
 	}
-	return writeSpan(combineIntervals(x, y, fraction.over))
+	return writeSpan(combineIntervals(x, y, exact.Fraction.Over))
 }
 
 // Compare compares two spans.
@@ -55,9 +57,9 @@ func Compare(a, b api.Span) (int, api.Errno) {
 		return 0, e
 	case a == b && a.Low == a.High:
 		return 0, api.OK
-	case x.high.compare(y.low) < 0:
+	case x.high.Compare(y.low) < 0:
 		return -1, api.OK
-	case x.low.compare(y.high) > 0:
+	case x.low.Compare(y.high) > 0:
 		return 1, api.OK
 	}
 	return 0, api.ErrOpen
@@ -65,17 +67,17 @@ func Compare(a, b api.Span) (int, api.Errno) {
 
 // Root returns a span that contains the root of a number.
 func Root(a api.Rat) (api.Span, api.Errno) {
-	x, e := read(a)
+	x, e := exact.Read(a)
 	if e != api.OK {
 		return api.Span{}, e
 	}
-	if x.top.negative {
+	if x.Top().IsNegative() {
 		return api.Span{}, api.ErrRange
 	}
 	if root, ok := exactRoot(x); ok {
 		return writeSpan(interval{root, root})
 	}
-	thousandths := x.times(whole(integerOf(1_000_000))).floor().size.root()
+	thousandths := x.Times(exact.Whole(exact.IntegerOf(1_000_000))).Floor().Root()
 	return writeSpan(decimalSpan(thousandths, 3))
 }
 
@@ -84,24 +86,29 @@ func Pi(k int) (api.Span, api.Errno) {
 	if k < 1 || k > MaxDecimals {
 		return api.Span{}, api.ErrRange
 	}
-	return writeSpan(decimalSpan(readNatural(decimalsOfPi[:1+k]), k))
+	return writeSpan(decimalSpan(integerOfDigits(decimalsOfPi[:1+k]), k))
 }
 
 // decimalSpan returns the span of one unit in the last of some decimals that begins with so many units.
-func decimalSpan(units natural, decimals int) interval {
-	scale := signed(false, powerOfTen(decimals))
-	low, high := signed(false, units), signed(false, units.plus(naturalOf(1)))
-	return interval{quotient(low, scale), quotient(high, scale)}
+func decimalSpan(units exact.Integer, decimals int) interval {
+	scale := integerOfDigits("1" + strings.Repeat("0", decimals))
+	next := units.Plus(exact.IntegerOf(1))
+	return interval{exact.Quotient(units, scale), exact.Quotient(next, scale)}
+}
+
+// integerOfDigits returns the integer of up to MaxDigits digits, the first one not 0.
+func integerOfDigits(digits string) exact.Integer {
+	value, _ := exact.Read(api.Rat(digits))
+	return value.Top()
 }
 
 // exactRoot returns the root of a number from 0 on, if it is a number. In lowest terms it is one only if both parts are squares.
-func exactRoot(a fraction) (fraction, bool) {
-	top, bottom := a.top.size.root(), a.bottom.root()
-	exact := top.times(top).compare(a.top.size) == 0 && bottom.times(bottom).compare(a.bottom) == 0
-	return fraction{signed(false, top), bottom}, exact
+func exactRoot(a exact.Fraction) (exact.Fraction, bool) {
+	root := exact.Quotient(a.Top().Root(), a.Bottom().Root())
+	return root, root.Times(root).Compare(a) == 0
 }
 
-func combineSpans(a, b api.Span, operation func(x, y fraction) fraction) (api.Span, api.Errno) {
+func combineSpans(a, b api.Span, operation func(x, y exact.Fraction) exact.Fraction) (api.Span, api.Errno) {
 	x, y, e := readSpans(a, b)
 	if e != api.OK {
 		return api.Span{}, e
@@ -111,22 +118,22 @@ func combineSpans(a, b api.Span, operation func(x, y fraction) fraction) (api.Sp
 
 // combineIntervals returns all results of an operation that only rises or only falls with one number as long as the
 // other one stays, so that its least and its greatest result are among those of the ends.
-func combineIntervals(x, y interval, operation func(x, y fraction) fraction) interval {
-	corners := []fraction{
+func combineIntervals(x, y interval, operation func(x, y exact.Fraction) exact.Fraction) interval {
+	corners := []exact.Fraction{
 		operation(x.low, y.low), operation(x.low, y.high),
 		operation(x.high, y.low), operation(x.high, y.high),
 	}
-	return interval{slices.MinFunc(corners, fraction.compare), slices.MaxFunc(corners, fraction.compare)}
+	return interval{slices.MinFunc(corners, exact.Fraction.Compare), slices.MaxFunc(corners, exact.Fraction.Compare)}
 }
 
 func (x interval) hasZero() bool {
-	above := !x.low.top.negative && !x.low.isZero()
-	return !above && !x.high.top.negative
+	above := !x.low.Top().IsNegative() && !x.low.IsZero()
+	return !above && !x.high.Top().IsNegative()
 }
 
 func readSpan(s api.Span) (interval, api.Errno) {
 	low, high, e := readBoth(s.Low, s.High)
-	if e == api.OK && low.compare(high) > 0 {
+	if e == api.OK && low.Compare(high) > 0 {
 		e = api.ErrOrder
 	}
 	return interval{low, high}, e
@@ -139,8 +146,8 @@ func readSpans(a, b api.Span) (interval, interval, api.Errno) {
 }
 
 func writeSpan(x interval) (api.Span, api.Errno) {
-	low, errorOfLow := write(x.low)
-	high, errorOfHigh := write(x.high)
+	low, errorOfLow := exact.Write(x.low)
+	high, errorOfHigh := exact.Write(x.high)
 	if e := firstError(errorOfLow, errorOfHigh); e != api.OK {
 		return api.Span{}, e
 	}

@@ -5,6 +5,7 @@ import (
 	"slices"
 
 	"becket/api"
+	"becket/exact"
 )
 
 // CheckTable returns the first error of a table, or OK.
@@ -16,12 +17,12 @@ func CheckTable(t []api.Point) api.Errno {
 // Step returns the step of a table at a number.
 func Step(t []api.Point, x api.Rat) (api.Rat, api.Errno) {
 	places, errorOfTable := readPlaces(t)
-	at, errorOfX := read(x)
+	at, errorOfX := exact.Read(x)
 	if e := firstError(errorOfTable, errorOfX); e != api.OK {
 		return "", e
 	}
 	reached := 0
-	for reached < len(places) && places[reached].compare(at) <= 0 {
+	for reached < len(places) && places[reached].Compare(at) <= 0 {
 		reached++
 	}
 	if reached == 0 {
@@ -31,20 +32,20 @@ func Step(t []api.Point, x api.Rat) (api.Rat, api.Errno) {
 }
 
 // readPlaces returns the X of the breakpoints, and the first error of the table.
-func readPlaces(t []api.Point) ([]fraction, api.Errno) {
+func readPlaces(t []api.Point) ([]exact.Fraction, api.Errno) {
 	if len(t) == 0 {
 		return nil, api.ErrEmpty
 	}
 	if len(t) > MaxBreaks {
 		return nil, api.ErrMany
 	}
-	places := make([]fraction, len(t))
+	places := make([]exact.Fraction, len(t))
 	for i, point := range t {
-		place, errorOfX := read(point.X)
+		place, errorOfX := exact.Read(point.X)
 		if e := firstError(errorOfX, Check(point.Y)); e != api.OK {
 			return nil, e
 		}
-		if i > 0 && place.compare(places[i-1]) <= 0 {
+		if i > 0 && place.Compare(places[i-1]) <= 0 {
 			return nil, api.ErrOrder
 		}
 		places[i] = place
@@ -54,7 +55,7 @@ func readPlaces(t []api.Point) ([]fraction, api.Errno) {
 
 // Nearest returns the nearest fraction with a denominator up to a limit.
 func Nearest(x api.Rat, most int) (api.Rat, api.Errno) {
-	number, e := read(x)
+	number, e := exact.Read(x)
 	if e != api.OK {
 		return "", e
 	}
@@ -62,37 +63,36 @@ func Nearest(x api.Rat, most int) (api.Rat, api.Errno) {
 		return "", api.ErrRange
 	}
 	// Without the integer part all that stands in the search fits into words.
-	base := whole(number.floor())
-	part := number.minus(base)
-	nearest := slices.MinFunc(neighbours(part, uint64(most)), func(a, b fraction) int {
-		return cmp.Or(part.distance(a).compare(part.distance(b)), a.bottom.compare(b.bottom), a.compare(b))
+	base := exact.Whole(number.Floor())
+	part := number.Minus(base)
+	nearest := slices.MinFunc(neighbours(part, most), func(a, b exact.Fraction) int {
+		byDistance := part.Distance(a).Compare(part.Distance(b))
+		return cmp.Or(byDistance, a.Bottom().Compare(b.Bottom()), a.Compare(b))
 	})
-	return write(base.plus(nearest))
+	return exact.Write(base.Plus(nearest))
 }
 
 // neighbours returns the nearest fractions below and above a number from 0 on, below 1, with denominators up to a
 // limit, in no fixed order; the number alone if it is such a fraction itself.
-func neighbours(part fraction, most uint64) []fraction {
-	var top, bottom, nextTop, nextBottom uint64 = 1, 0, 0, 1 // two successive convergents; the first ones are 1/0 and 0/1
-	divided, divisor := part.bottom, part.top.size
-	for len(divisor) > 0 {
-		term, rest := divided.divide(divisor)
-		room := (most - bottom) / nextBottom
-		if term.compare(naturalOf(room)) > 0 {
-			return []fraction{
+func neighbours(part exact.Fraction, most int) []exact.Fraction {
+	top, bottom, nextTop, nextBottom := 1, 0, 0, 1 // two successive convergents; the first ones are 1/0 and 0/1
+	divided, divisor := part.Bottom(), part.Top()
+	for !divisor.IsZero() {
+		term, rest := divided.Divide(divisor)
+		steps, fits := term.Int()
+		if room := (most - bottom) / nextBottom; !fits || steps > room {
+			return []exact.Fraction{
 				fractionOf(top+room*nextTop, bottom+room*nextBottom),
 				fractionOf(nextTop, nextBottom),
 			}
 		}
-		steps := term.lowWord()
 		top, nextTop = nextTop, top+steps*nextTop
 		bottom, nextBottom = nextBottom, bottom+steps*nextBottom
 		divided, divisor = divisor, rest
 	}
-	return []fraction{part}
+	return []exact.Fraction{part}
 }
 
-// fractionOf returns the fraction of two words, the second one not 0.
-func fractionOf(top, bottom uint64) fraction {
-	return quotient(signed(false, naturalOf(top)), signed(false, naturalOf(bottom)))
+func fractionOf(top, bottom int) exact.Fraction {
+	return exact.Quotient(exact.IntegerOf(top), exact.IntegerOf(bottom))
 }

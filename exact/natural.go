@@ -1,4 +1,4 @@
-package number
+package exact
 
 import (
 	"cmp"
@@ -218,10 +218,6 @@ func powerOfTwo(exponent int) natural {
 	return power
 }
 
-func powerOfTen(exponent int) natural {
-	return readNatural("1" + strings.Repeat("0", exponent))
-}
-
 // commonDivisor returns the greatest one; that of 0 and another number is this number.
 func commonDivisor(a, b natural) natural {
 	if a.compare(b) < 0 {
@@ -271,12 +267,6 @@ func (e euclid) apply(a, b natural) (natural, natural) {
 	left := a.timesWord(e.a0).gap(b.timesWord(e.b0))
 	right := a.timesWord(e.a1).gap(b.timesWord(e.b1))
 	return left, right
-}
-
-// commonMultiple returns the least one; both are above 0.
-func commonMultiple(a, b natural) natural {
-	quotient, _ := b.divide(commonDivisor(a, b))
-	return a.times(quotient)
 }
 
 // addTo adds b to words that are at least as many as its own, and returns the carry.

@@ -1,0 +1,95 @@
+package yarn
+
+import (
+	"becket/api"
+	"becket/exact"
+	"becket/number"
+)
+
+// System is a system of counts.
+type System struct {
+	Length int
+	Mass   int
+	Direct bool
+}
+
+// CheckSystem returns the first error of a system, or OK.
+func CheckSystem(s System) api.Errno {
+	return firstError(checkRange(s.Length, 1, api.MaxNumber), checkRange(s.Mass, 1, api.MaxNumber))
+}
+
+// Density returns the mass of a metre of a yarn with a count.
+func Density(s System, count api.Rat) (api.Rat, api.Errno) {
+	if e := firstError(CheckSystem(s), checkPositive(count)); e != api.OK {
+		return "", e
+	}
+	if s.Direct {
+		return number.Mul(count, unitOf(s))
+	}
+	return number.Div(unitOf(s), count)
+}
+
+// Count returns the count of a yarn with a density.
+func Count(s System, density api.Rat) (api.Rat, api.Errno) {
+	if e := firstError(CheckSystem(s), checkPositive(density)); e != api.OK {
+		return "", e
+	}
+	if s.Direct {
+		return number.Div(density, unitOf(s))
+	}
+	return number.Div(unitOf(s), density)
+}
+
+// Convert returns a count in another system.
+func Convert(from, to System, count api.Rat) (api.Rat, api.Errno) {
+	if e := firstError(CheckSystem(from), CheckSystem(to), checkPositive(count)); e != api.OK {
+		return "", e
+	}
+	// The units are joined first: they are short, while the density on the way may have too many digits.
+	above, below := unitOf(to), unitOf(from)
+	if to.Direct {
+		above, below = below, above
+	}
+	factor, _ := number.Div(above, below)
+	if from.Direct == to.Direct {
+		return number.Mul(factor, count)
+	}
+	return number.Div(factor, count)
+}
+
+// unitOf returns the density of the count 1.
+func unitOf(s System) api.Rat {
+	unit, _ := number.Of(s.Mass, s.Length)
+	return unit
+}
+
+// Mass returns the mass of a length of a yarn.
+func Mass(y Yarn, length api.Rat) (api.Rat, api.Errno) {
+	if e := firstError(CheckYarn(y), checkFromZero(length)); e != api.OK {
+		return "", e
+	}
+	return number.Mul(y.Density, length)
+}
+
+// Length returns the length of a mass of a yarn.
+func Length(y Yarn, mass api.Rat) (api.Rat, api.Errno) {
+	if e := firstError(CheckYarn(y), checkFromZero(mass)); e != api.OK {
+		return "", e
+	}
+	return number.Div(mass, y.Density)
+}
+
+// Bobbins returns the least number of bobbins that a length needs.
+func Bobbins(y Yarn, capacity int, length api.Rat) (int, api.Errno) {
+	if e := firstError(CheckYarn(y), checkRange(capacity, 1, api.MaxNumber), checkFromZero(length)); e != api.OK {
+		return 0, e
+	}
+	// The mass may have too many digits though the number of bobbins is small.
+	mass := valueOf(y.Density).Times(valueOf(length))
+	loads := mass.Over(exact.Whole(exact.IntegerOf(capacity)))
+	bobbins, fits := loads.Ceiling().Int()
+	if !fits || bobbins > api.MaxNumber {
+		return 0, api.ErrLarge
+	}
+	return bobbins, api.OK
+}

@@ -1,0 +1,106 @@
+package yarn
+
+import (
+	"becket/api"
+)
+
+// CheckEntry returns the first error of an entry by itself, or OK.
+func CheckEntry(e Entry) api.Errno {
+	kind, known := kinds()[e.Kind]
+	if !known {
+		return api.ErrKind
+	}
+	return firstError(
+		checkRange(e.Day, 0, api.MaxDay), checkRange(e.Amount, 1, api.MaxNumber), checkName(e.Lot), kind.check(e),
+	)
+}
+
+// checkReceived returns the first error of what only entries that receive a lot have, or must not have.
+func checkReceived(e Entry) api.Errno {
+	return firstError(checkName(e.Yarn), checkDye(e.Dye), checkEmpty(e.Order))
+}
+
+// checkOrdered returns the first error of what only entries for an order have, or must not have.
+func checkOrdered(e Entry) api.Errno {
+	return firstError(checkName(e.Order), checkEmpty(e.Yarn), checkEmpty(e.Dye))
+}
+
+func checkEmpty(text string) api.Errno {
+	if text != "" {
+		return api.ErrForm
+	}
+	return api.OK
+}
+
+// CheckLog returns the first error of a log, or OK.
+func CheckLog(l []Entry) api.Errno {
+	if len(l) > api.MaxEvents {
+		return api.ErrMany
+	}
+	return checkEach(l, CheckEntry)
+}
+
+// CheckState returns the first error of a state, or OK.
+func CheckState(s State) api.Errno {
+	if e := firstError(checkRange(s.Day, 0, api.MaxDay), checkLots(s.Lots)); e != api.OK {
+		return e
+	}
+	if e := checkHolds(s); e != api.OK {
+		return e
+	}
+	return checkFree(s)
+}
+
+// checkLots returns the first error of the lots of a state.
+func checkLots(lots []Lot) api.Errno {
+	if len(lots) > MaxLots {
+		return api.ErrMany
+	}
+	for i, lot := range lots {
+		if e := firstError(checkName(lot.Name), checkName(lot.Yarn), checkDye(lot.Dye)); e != api.OK {
+			return e
+		}
+		if i > 0 && lot.Name <= lots[i-1].Name {
+			return api.ErrOrder
+		}
+		if e := checkRange(lot.Stock, 0, api.MaxNumber); e != api.OK {
+			return e
+		}
+	}
+	return api.OK
+}
+
+// checkHolds returns the first error of the holds of a state whose lots have none.
+func checkHolds(s State) api.Errno {
+	if len(s.Holds) > MaxOrders {
+		return api.ErrMany
+	}
+	for i, hold := range s.Holds {
+		if _, known := lotNamed(s, hold.Lot); !known {
+			return api.ErrUnknown
+		}
+		if e := checkName(hold.Order); e != api.OK {
+			return e
+		}
+		if i > 0 && compareClaims(claimOf(hold), claimOf(s.Holds[i-1])) <= 0 {
+			return api.ErrOrder
+		}
+		if e := firstError(checkRange(hold.Reserved, 0, api.MaxNumber), checkRange(hold.Taken, 0, api.MaxNumber)); e != api.OK {
+			return e
+		}
+		if hold.Reserved == 0 && hold.Taken == 0 {
+			return api.ErrZero
+		}
+	}
+	return api.OK
+}
+
+// checkFree returns the error of a lot of which more is reserved than there is.
+func checkFree(s State) api.Errno {
+	for _, lot := range s.Lots {
+		if freeOf(s, lot) < 0 {
+			return api.ErrStock
+		}
+	}
+	return api.OK
+}
