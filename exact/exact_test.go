@@ -145,6 +145,24 @@ func TestFractions(t *testing.T) {
 	}
 }
 
+func TestSigns(t *testing.T) {
+	for _, row := range []struct {
+		top, bottom int
+		text        api.Rat
+		sign        int
+	}{{0, 5, "0", 0}, {0, -5, "0", 0}, {3, 0, "0", 0}, {6, 4, "3/2", 1}, {-6, 4, "-3/2", -1}, {6, -4, "-3/2", -1}, {-6, -3, "2", 1}, {1, math.MinInt, "-1/9223372036854775808", -1}} {
+		a := exact.Ratio(row.top, row.bottom)
+		written, e := exact.Write(a)
+		same(t, e, api.OK)
+		same(t, written, row.text, row)
+		same(t, a.Sign(), row.sign, row)
+		same(t, exact.Value(row.text).Compare(a), 0, row)
+	}
+	for _, text := range []api.Rat{"", "x", "2/4", api.Rat(strings.Repeat("9", 601))} {
+		same(t, exact.Value(text).Sign(), 0, text)
+	}
+}
+
 // What a number has too much digits for its text, a sum may take away again.
 func TestNoLimitOnTheWay(t *testing.T) {
 	long, _ := exact.Read(api.Rat(strings.Repeat("9", 600)))

@@ -1,5 +1,5 @@
-// Package exact computes with integers and fractions of any size. The layers use it where numbers on the way may have
-// more digits than those of arguments and results.
+// Package exact computes with integers and fractions of any size, and solves or refutes equations of them. The layers use
+// it where numbers on the way may have more digits than those of arguments and results.
 package exact
 
 import (
@@ -34,6 +34,11 @@ func Quotient(top, bottom Integer) Fraction {
 	return Fraction{signed(negative, size), rest}
 }
 
+// Ratio returns the number of two ints; it is 0 if the second one is 0.
+func Ratio(top, bottom int) Fraction {
+	return Quotient(IntegerOf(top), IntegerOf(bottom))
+}
+
 // Top returns the numerator, with the sign of the number.
 func (a Fraction) Top() Integer {
 	return a.top
@@ -52,6 +57,11 @@ func (a Fraction) IsZero() bool {
 	return a.top.IsZero()
 }
 
+// Sign returns -1, 0 or 1 if the number is below 0, 0, or above 0.
+func (a Fraction) Sign() int {
+	return a.top.Compare(Integer{})
+}
+
 // Negated returns the opposite.
 func (a Fraction) Negated() Fraction {
 	return Fraction{a.top.Negated(), a.bottom}
@@ -59,6 +69,12 @@ func (a Fraction) Negated() Fraction {
 
 // Plus returns the sum.
 func (a Fraction) Plus(b Fraction) Fraction {
+	switch { // spares the common divisor of a long number that stays as it is
+	case b.IsZero():
+		return a
+	case a.IsZero():
+		return b
+	}
 	left, right := a.top.Times(b.Bottom()), b.top.Times(a.Bottom())
 	return Quotient(left.Plus(right), a.Bottom().Times(b.Bottom()))
 }
@@ -120,6 +136,12 @@ func Read(text api.Rat) (Fraction, api.Errno) {
 		return Fraction{}, api.ErrForm
 	}
 	return number, api.OK
+}
+
+// Value returns the number of a text that has been checked; it is 0 for a text that is none.
+func Value(text api.Rat) Fraction {
+	number, _ := Read(text)
+	return number
 }
 
 // isDecimal tells whether a text is a decimal integer without a sign and without zeros at the beginning.

@@ -82,8 +82,8 @@ func neighbours(part exact.Fraction, most int) []exact.Fraction {
 		steps, fits := term.Int()
 		if room := (most - bottom) / nextBottom; !fits || steps > room {
 			return []exact.Fraction{
-				fractionOf(top+room*nextTop, bottom+room*nextBottom),
-				fractionOf(nextTop, nextBottom),
+				exact.Ratio(top+room*nextTop, bottom+room*nextBottom),
+				exact.Ratio(nextTop, nextBottom),
 			}
 		}
 		top, nextTop = nextTop, top+steps*nextTop
@@ -91,8 +91,4 @@ func neighbours(part exact.Fraction, most int) []exact.Fraction {
 		divided, divisor = divisor, rest
 	}
 	return []exact.Fraction{part}
-}
-
-func fractionOf(top, bottom int) exact.Fraction {
-	return exact.Quotient(exact.IntegerOf(top), exact.IntegerOf(bottom))
 }

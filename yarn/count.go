@@ -2,6 +2,7 @@ package yarn
 
 import (
 	"becket/api"
+	"becket/check"
 	"becket/exact"
 	"becket/number"
 )
@@ -15,12 +16,12 @@ type System struct {
 
 // CheckSystem returns the first error of a system, or OK.
 func CheckSystem(s System) api.Errno {
-	return firstError(checkRange(s.Length, 1, api.MaxNumber), checkRange(s.Mass, 1, api.MaxNumber))
+	return check.First(check.Range(s.Length, 1, api.MaxNumber), check.Range(s.Mass, 1, api.MaxNumber))
 }
 
 // Density returns the mass of a metre of a yarn with a count.
 func Density(s System, count api.Rat) (api.Rat, api.Errno) {
-	if e := firstError(CheckSystem(s), checkPositive(count)); e != api.OK {
+	if e := check.First(CheckSystem(s), check.Positive(count)); e != api.OK {
 		return "", e
 	}
 	if s.Direct {
@@ -31,7 +32,7 @@ func Density(s System, count api.Rat) (api.Rat, api.Errno) {
 
 // Count returns the count of a yarn with a density.
 func Count(s System, density api.Rat) (api.Rat, api.Errno) {
-	if e := firstError(CheckSystem(s), checkPositive(density)); e != api.OK {
+	if e := check.First(CheckSystem(s), check.Positive(density)); e != api.OK {
 		return "", e
 	}
 	if s.Direct {
@@ -42,7 +43,7 @@ func Count(s System, density api.Rat) (api.Rat, api.Errno) {
 
 // Convert returns a count in another system.
 func Convert(from, to System, count api.Rat) (api.Rat, api.Errno) {
-	if e := firstError(CheckSystem(from), CheckSystem(to), checkPositive(count)); e != api.OK {
+	if e := check.First(CheckSystem(from), CheckSystem(to), check.Positive(count)); e != api.OK {
 		return "", e
 	}
 	// The units are joined first: they are short, while the density on the way may have too many digits.
@@ -65,7 +66,7 @@ func unitOf(s System) api.Rat {
 
 // Mass returns the mass of a length of a yarn.
 func Mass(y Yarn, length api.Rat) (api.Rat, api.Errno) {
-	if e := firstError(CheckYarn(y), checkFromZero(length)); e != api.OK {
+	if e := check.First(CheckYarn(y), check.FromZero(length)); e != api.OK {
 		return "", e
 	}
 	return number.Mul(y.Density, length)
@@ -73,7 +74,7 @@ func Mass(y Yarn, length api.Rat) (api.Rat, api.Errno) {
 
 // Length returns the length of a mass of a yarn.
 func Length(y Yarn, mass api.Rat) (api.Rat, api.Errno) {
-	if e := firstError(CheckYarn(y), checkFromZero(mass)); e != api.OK {
+	if e := check.First(CheckYarn(y), check.FromZero(mass)); e != api.OK {
 		return "", e
 	}
 	return number.Div(mass, y.Density)
@@ -81,11 +82,11 @@ func Length(y Yarn, mass api.Rat) (api.Rat, api.Errno) {
 
 // Bobbins returns the least number of bobbins that a length needs.
 func Bobbins(y Yarn, capacity int, length api.Rat) (int, api.Errno) {
-	if e := firstError(CheckYarn(y), checkRange(capacity, 1, api.MaxNumber), checkFromZero(length)); e != api.OK {
+	if e := check.First(CheckYarn(y), check.Range(capacity, 1, api.MaxNumber), check.FromZero(length)); e != api.OK {
 		return 0, e
 	}
 	// The mass may have too many digits though the number of bobbins is small.
-	mass := valueOf(y.Density).Times(valueOf(length))
+	mass := exact.Value(y.Density).Times(exact.Value(length))
 	loads := mass.Over(exact.Whole(exact.IntegerOf(capacity)))
 	bobbins, fits := loads.Ceiling().Int()
 	if !fits || bobbins > api.MaxNumber {

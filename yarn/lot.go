@@ -2,6 +2,7 @@ package yarn
 
 import (
 	"becket/api"
+	"becket/check"
 )
 
 // Free returns what is free of a lot.
@@ -18,7 +19,7 @@ func Free(s State, lot string) (int, api.Errno) {
 
 // Stock returns the stock of a yarn and a dye, and what is free of it.
 func Stock(s State, yarn, dye string) (int, int, api.Errno) {
-	if e := firstError(CheckState(s), checkName(yarn), checkDye(dye)); e != api.OK {
+	if e := check.First(CheckState(s), check.Name(yarn), checkDye(dye)); e != api.OK {
 		return 0, 0, e
 	}
 	stock, free := 0, 0
@@ -33,7 +34,7 @@ func Stock(s State, yarn, dye string) (int, int, api.Errno) {
 
 // Match returns the fewest lots that have an amount.
 func Match(s State, yarn, dye string, amount int) ([]int, api.Errno) {
-	e := firstError(CheckState(s), checkName(yarn), checkDye(dye), checkRange(amount, 0, api.MaxNumber))
+	e := check.First(CheckState(s), check.Name(yarn), checkDye(dye), check.Range(amount, 0, api.MaxNumber))
 	if e != api.OK {
 		return nil, e
 	}

@@ -2,6 +2,7 @@ package yarn
 
 import (
 	"becket/api"
+	"becket/check"
 )
 
 // CheckEntry returns the first error of an entry by itself, or OK.
@@ -10,19 +11,19 @@ func CheckEntry(e Entry) api.Errno {
 	if !known {
 		return api.ErrKind
 	}
-	return firstError(
-		checkRange(e.Day, 0, api.MaxDay), checkRange(e.Amount, 1, api.MaxNumber), checkName(e.Lot), kind.check(e),
+	return check.First(
+		check.Range(e.Day, 0, api.MaxDay), check.Range(e.Amount, 1, api.MaxNumber), check.Name(e.Lot), kind.check(e),
 	)
 }
 
 // checkReceived returns the first error of what only entries that receive a lot have, or must not have.
 func checkReceived(e Entry) api.Errno {
-	return firstError(checkName(e.Yarn), checkDye(e.Dye), checkEmpty(e.Order))
+	return check.First(check.Name(e.Yarn), checkDye(e.Dye), checkEmpty(e.Order))
 }
 
 // checkOrdered returns the first error of what only entries for an order have, or must not have.
 func checkOrdered(e Entry) api.Errno {
-	return firstError(checkName(e.Order), checkEmpty(e.Yarn), checkEmpty(e.Dye))
+	return check.First(check.Name(e.Order), checkEmpty(e.Yarn), checkEmpty(e.Dye))
 }
 
 func checkEmpty(text string) api.Errno {
@@ -37,12 +38,12 @@ func CheckLog(l []Entry) api.Errno {
 	if len(l) > api.MaxEvents {
 		return api.ErrMany
 	}
-	return checkEach(l, CheckEntry)
+	return check.Each(l, CheckEntry)
 }
 
 // CheckState returns the first error of a state, or OK.
 func CheckState(s State) api.Errno {
-	if e := firstError(checkRange(s.Day, 0, api.MaxDay), checkLots(s.Lots)); e != api.OK {
+	if e := check.First(check.Range(s.Day, 0, api.MaxDay), checkLots(s.Lots)); e != api.OK {
 		return e
 	}
 	if e := checkHolds(s); e != api.OK {
@@ -57,13 +58,13 @@ func checkLots(lots []Lot) api.Errno {
 		return api.ErrMany
 	}
 	for i, lot := range lots {
-		if e := firstError(checkName(lot.Name), checkName(lot.Yarn), checkDye(lot.Dye)); e != api.OK {
+		if e := check.First(check.Name(lot.Name), check.Name(lot.Yarn), checkDye(lot.Dye)); e != api.OK {
 			return e
 		}
 		if i > 0 && lot.Name <= lots[i-1].Name {
 			return api.ErrOrder
 		}
-		if e := checkRange(lot.Stock, 0, api.MaxNumber); e != api.OK {
+		if e := check.Range(lot.Stock, 0, api.MaxNumber); e != api.OK {
 			return e
 		}
 	}
@@ -79,13 +80,13 @@ func checkHolds(s State) api.Errno {
 		if _, known := lotNamed(s, hold.Lot); !known {
 			return api.ErrUnknown
 		}
-		if e := checkName(hold.Order); e != api.OK {
+		if e := check.Name(hold.Order); e != api.OK {
 			return e
 		}
 		if i > 0 && compareClaims(claimOf(hold), claimOf(s.Holds[i-1])) <= 0 {
 			return api.ErrOrder
 		}
-		if e := firstError(checkRange(hold.Reserved, 0, api.MaxNumber), checkRange(hold.Taken, 0, api.MaxNumber)); e != api.OK {
+		if e := check.First(check.Range(hold.Reserved, 0, api.MaxNumber), check.Range(hold.Taken, 0, api.MaxNumber)); e != api.OK {
 			return e
 		}
 		if hold.Reserved == 0 && hold.Taken == 0 {

@@ -6,6 +6,7 @@ import (
 	"strings"
 
 	"becket/api"
+	"becket/check"
 )
 
 // The limits of the chapter.
@@ -118,7 +119,7 @@ func taken(a account, amount int) account {
 
 // Legal returns the rule that refuses an entry, 0 if none does.
 func Legal(s State, e Entry) (int, api.Errno) {
-	if code := firstError(CheckState(s), CheckEntry(e)); code != api.OK {
+	if code := check.First(CheckState(s), CheckEntry(e)); code != api.OK {
 		return 0, code
 	}
 	_, rule := after(s, e)
@@ -127,7 +128,7 @@ func Legal(s State, e Entry) (int, api.Errno) {
 
 // Next returns the state after a legal entry.
 func Next(s State, e Entry) (State, api.Errno) {
-	if code := firstError(CheckState(s), CheckEntry(e)); code != api.OK {
+	if code := check.First(CheckState(s), CheckEntry(e)); code != api.OK {
 		return State{}, code
 	}
 	next, rule := after(s, e)
@@ -148,7 +149,7 @@ func Replay(l []Entry) (State, []Refusal, api.Errno) {
 
 // Until returns the state after the entries up to a day.
 func Until(l []Entry, day int) (State, api.Errno) {
-	if e := firstError(CheckLog(l), checkRange(day, 0, api.MaxDay)); e != api.OK {
+	if e := check.First(CheckLog(l), check.Range(day, 0, api.MaxDay)); e != api.OK {
 		return State{}, e
 	}
 	var early []Entry

@@ -1,0 +1,65 @@
+package check_test
+
+import (
+	"math"
+	"strings"
+	"testing"
+
+	"becket/api"
+	"becket/check"
+)
+
+func same(t *testing.T, got, wanted api.Errno, what ...any) {
+	t.Helper()
+	if got != wanted {
+		t.Errorf("%v: got %d, want %d", what, got, wanted)
+	}
+}
+
+func TestFirst(t *testing.T) {
+	same(t, check.First(), api.OK)
+	same(t, check.First(api.OK, api.OK), api.OK)
+	same(t, check.First(api.OK, api.ErrTorn, api.OK, api.ErrForm), api.ErrTorn)
+	same(t, check.First(check.That(true, api.ErrTorn), check.That(false, api.ErrKind)), api.ErrKind)
+}
+
+func TestEach(t *testing.T) {
+	examined := 0
+	code := check.Each([]int{0, 0, 5, 3}, func(x int) api.Errno { examined++; return api.Errno(x) })
+	same(t, code, 5)
+	if examined != 3 {
+		t.Errorf("%d elements were examined, not 3", examined)
+	}
+	same(t, check.Each(nil, func(x int) api.Errno { return api.ErrForm }), api.OK)
+}
+
+func TestRange(t *testing.T) {
+	for _, value := range []int{2, 3, 5} {
+		same(t, check.Range(value, 2, 5), api.OK, value)
+	}
+	for _, value := range []int{1, 6, math.MinInt, math.MaxInt} {
+		same(t, check.Range(value, 2, 5), api.ErrRange, value)
+	}
+}
+
+func TestName(t *testing.T) {
+	for _, name := range []string{"a", "Z_9", strings.Repeat("a", 24)} {
+		same(t, check.Name(name), api.OK, name)
+	}
+	for _, name := range []string{"", "9", "a b", strings.Repeat("a", 25)} {
+		same(t, check.Name(name), api.ErrName, name)
+	}
+}
+
+func TestSigns(t *testing.T) {
+	for _, row := range []struct {
+		text               api.Rat
+		positive, fromZero api.Errno
+	}{
+		{"1", api.OK, api.OK}, {"1/7", api.OK, api.OK}, {"0", api.ErrRange, api.OK}, {"-1/7", api.ErrRange, api.ErrRange},
+		{"", api.ErrForm, api.ErrForm}, {"-2/4", api.ErrForm, api.ErrForm}, {api.Rat(strings.Repeat("9", 601)), api.ErrLarge, api.ErrLarge},
+	} {
+		same(t, check.Positive(row.text), row.positive, row.text)
+		same(t, check.FromZero(row.text), row.fromZero, row.text)
+	}
+}
