@@ -6,6 +6,7 @@ import (
 	"strings"
 
 	"becket/api"
+	"becket/decimal"
 )
 
 // The names of lines.
@@ -88,18 +89,14 @@ func Parse(s string) (Rope, int, api.Errno) {
 func addPart(r Rope, words []string) (Rope, bool) {
 	words = append(words, "0", "0", "0") // the yarns of a part that has none
 	p := Part{Name: words[1], Twist: api.Rat(words[8]), Tex: api.Rat(words[10]), Stiff: api.Rat(words[11])}
-	fields := []*int{&p.Parent, &p.Hand, &p.Lay, &p.Radius, &p.Thick, &p.Count}
-	readable := readInteger(&p.Yarns, words[9])
-	for i, field := range fields {
-		readable = readInteger(field, words[2+i]) && readable
+	fields := []*int{&p.Parent, &p.Hand, &p.Lay, &p.Radius, &p.Thick, &p.Count, &p.Yarns}
+	for i, word := range append(words[2:8:8], words[9]) {
+		value, readable := decimal.Integer(word)
+		if !readable {
+			return r, false
+		}
+		*fields[i] = value
 	}
 	r.Parts = append(r.Parts, p)
-	return r, readable
-}
-
-// readInteger reads an integer of at most 9 digits, and tells whether it is written as one.
-func readInteger(field *int, word string) bool {
-	value, err := strconv.Atoi(word)
-	*field = value
-	return err == nil && value >= -api.MaxNumber && value <= api.MaxNumber && strconv.Itoa(value) == word
+	return r, true
 }
