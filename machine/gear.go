@@ -3,6 +3,8 @@ package machine
 import (
 	"iter"
 	"slices"
+
+	"becket/lists"
 )
 
 // The sides of a gear, in the order in which carriers pass them if it goes forwards.
@@ -90,14 +92,5 @@ func otherSlots(m Machine) []int {
 
 // through returns the slots to which a permutation leads from some slots.
 func through(perm, slots []int) []int {
-	return moved(slots, func(slot int) int { return perm[slot] })
-}
-
-// moved returns what each element of a list becomes.
-func moved[From, To any](list []From, to func(From) To) []To {
-	result := make([]To, len(list))
-	for i, element := range list {
-		result[i] = to(element)
-	}
-	return result
+	return lists.Map(slots, func(slot int) int { return perm[slot] })
 }

@@ -6,6 +6,7 @@ import (
 
 	"becket/api"
 	"becket/decimal"
+	"becket/lists"
 )
 
 // The words of texts.
@@ -30,7 +31,7 @@ func Print(m Machine) (string, api.Errno) {
 		words[2] = backwards
 	}
 	if len(m.Switches) > 0 {
-		words[3] = strings.Join(moved(m.Switches, strconv.Itoa), ",")
+		words[3] = strings.Join(lists.Map(m.Switches, strconv.Itoa), ",")
 	}
 	return strings.Join(words, " "), api.OK
 }

@@ -5,6 +5,7 @@ import (
 
 	"becket/api"
 	"becket/check"
+	"becket/lists"
 )
 
 // Crossing is a crossing on a gear: the carrier that passes over, and the one that passes under.
@@ -54,7 +55,7 @@ func Strands(m Machine, l []int, n int) ([]int, api.Errno) {
 	if e != api.OK {
 		return nil, e
 	}
-	return moved(order(m, l), func(carrier int) int { return slices.Index(ends, carrier) }), api.OK
+	return lists.Map(order(m, l), func(carrier int) int { return slices.Index(ends, carrier) }), api.OK
 }
 
 // checkRow returns the first error of the slots of carriers in a machine that has to be a row.

@@ -1,0 +1,25 @@
+package lists_test
+
+import (
+	"slices"
+	"strconv"
+	"testing"
+
+	"becket/lists"
+)
+
+func TestMap(t *testing.T) {
+	list := []int{3, -1, 3}
+	texts := lists.Map(list, strconv.Itoa)
+	if !slices.Equal(texts, []string{"3", "-1", "3"}) || !slices.Equal(list, []int{3, -1, 3}) {
+		t.Error(texts, list)
+	}
+	if empty := lists.Map(nil, strconv.Itoa); len(empty) != 0 {
+		t.Error(empty)
+	}
+	same := lists.Map(list, func(element int) int { return element })
+	same[0] = 9
+	if list[0] != 3 {
+		t.Error("the list of the results has the memory of the argument")
+	}
+}
