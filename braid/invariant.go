@@ -5,6 +5,7 @@ import (
 
 	"becket/api"
 	"becket/check"
+	"becket/lists"
 	"becket/number"
 )
 
@@ -23,12 +24,12 @@ func Link(n int, w []int) ([][]int, api.Errno) {
 	for strand := range numbers {
 		numbers[strand] = make([]int, n)
 	}
-	strands := unmoved(n)
+	strands := lists.Numbers(n)
 	for at, sign := range letters(w) {
 		left, right := strands[at], strands[at+1]
 		numbers[left][right] += sign
 		numbers[right][left] += sign
-		exchange(strands, at)
+		lists.Exchange(strands, at)
 	}
 	return numbers, api.OK
 }

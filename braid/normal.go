@@ -104,7 +104,7 @@ func checkFactor(n int, before simple, p []int) api.Errno {
 	if e := checkPerm(n, p); e != api.OK {
 		return e
 	}
-	if slices.Equal(p, unmoved(n)) || slices.Equal(p, halfTwist(n)) {
+	if slices.Equal(p, lists.Numbers(n)) || slices.Equal(p, halfTwist(n)) {
 		return api.ErrForm
 	}
 	_, found := misplaced(before, p)
@@ -124,7 +124,7 @@ func misplaced(before, next simple) (int, bool) {
 }
 
 func halfTwist(n int) simple {
-	reversal := unmoved(n)
+	reversal := lists.Numbers(n)
 	slices.Reverse(reversal)
 	return reversal
 }
@@ -161,7 +161,7 @@ func (s simple) word() []int {
 	ends := slices.Clone(s)
 	for at := 0; at+1 < len(ends); at++ {
 		if ends[at] > ends[at+1] {
-			exchange(ends, at)
+			lists.Exchange(ends, at)
 			word = append(word, at+1)
 			at = -1 // for the next letter is the least one again
 		}
@@ -171,7 +171,7 @@ func (s simple) word() []int {
 
 // times multiplies a product by the letter at a place with a sign.
 func (p *product) times(at, sign int) {
-	letter := simple(unmoved(p.strands))
+	letter := simple(lists.Numbers(p.strands))
 	if sign < 0 {
 		// The letter is the inverse of the half twist, and then the half twist without this letter at its end. A half
 		// twist comes to the left of factors if they are flipped.
@@ -179,7 +179,7 @@ func (p *product) times(at, sign int) {
 		p.factors = lists.Map(p.factors, simple.flipped)
 		letter, at = halfTwist(p.strands), p.strands-2-at
 	}
-	exchange(letter, at)
+	lists.Exchange(letter, at)
 	p.factors = append(p.factors, letter)
 	p.arrange()
 	p.trim()
@@ -192,7 +192,7 @@ func (p *product) arrange() {
 		left, right := p.factors[to], p.factors[to+1]
 		first, second := slices.Index(left, at), slices.Index(left, at+1)
 		left[first], left[second] = at+1, at
-		exchange(right, at)
+		lists.Exchange(right, at)
 	}
 search:
 	for to := len(p.factors) - 2; to >= 0; to-- {
@@ -212,7 +212,7 @@ func (p *product) trim() {
 		p.half++
 		p.factors = p.factors[1:]
 	}
-	for last := len(p.factors) - 1; last >= 0 && slices.Equal(p.factors[last], unmoved(p.strands)); last-- {
+	for last := len(p.factors) - 1; last >= 0 && slices.Equal(p.factors[last], lists.Numbers(p.strands)); last-- {
 		p.factors = p.factors[:last]
 	}
 }

@@ -1,4 +1,4 @@
-// Package lists maps lists, for all layers.
+// Package lists makes, maps and changes lists, for all layers.
 package lists
 
 // Map returns what each element of a list becomes.
@@ -8,4 +8,18 @@ func Map[From, To any](list []From, to func(From) To) []To {
 		result[i] = to(element)
 	}
 	return result
+}
+
+// Numbers returns the numbers from 0 to n - 1, in their order.
+func Numbers(n int) []int {
+	numbers := make([]int, n)
+	for i := range numbers {
+		numbers[i] = i
+	}
+	return numbers
+}
+
+// Exchange exchanges an element of a list and the next one.
+func Exchange[T any](list []T, at int) {
+	list[at], list[at+1] = list[at+1], list[at]
 }

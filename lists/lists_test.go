@@ -23,3 +23,18 @@ func TestMap(t *testing.T) {
 		t.Error("the list of the results has the memory of the argument")
 	}
 }
+
+func TestNumbers(t *testing.T) {
+	if !slices.Equal(lists.Numbers(4), []int{0, 1, 2, 3}) || len(lists.Numbers(0)) != 0 {
+		t.Error(lists.Numbers(4), lists.Numbers(0))
+	}
+}
+
+func TestExchange(t *testing.T) {
+	list := []string{"a", "b", "c"}
+	lists.Exchange(list, 1)
+	lists.Exchange(list, 0)
+	if !slices.Equal(list, []string{"c", "a", "b"}) {
+		t.Error(list)
+	}
+}

@@ -78,10 +78,7 @@ func sharedPlaces(m Machine) iter.Seq2[int, [2]int] {
 
 // otherSlots returns for each slot the other one of its place, if this is shared and has no switch; otherwise the slot itself.
 func otherSlots(m Machine) []int {
-	others := make([]int, sides*m.Gears)
-	for slot := range others {
-		others[slot] = slot
-	}
+	others := lists.Numbers(sides * m.Gears)
 	for place, slots := range sharedPlaces(m) {
 		if !slices.Contains(m.Switches, place) {
 			others[slots[0]], others[slots[1]] = slots[1], slots[0]
