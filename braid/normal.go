@@ -124,9 +124,7 @@ func misplaced(before, next simple) (int, bool) {
 }
 
 func halfTwist(n int) simple {
-	reversal := lists.Numbers(n)
-	slices.Reverse(reversal)
-	return reversal
+	return lists.Reversed(lists.Numbers(n))
 }
 
 // begins tells for each place whether the strands that begin there and at the next place cross.
@@ -150,9 +148,7 @@ func (s simple) ends() [api.MaxStrands]bool {
 // flipped returns the simple braid with its strands numbered from the right.
 func (s simple) flipped() simple {
 	last := len(s) - 1
-	other := lists.Map(s, func(end int) int { return last - end })
-	slices.Reverse(other)
-	return other
+	return lists.Reversed(lists.Map(s, func(end int) int { return last - end }))
 }
 
 // word returns the word of a simple braid.

@@ -1,5 +1,7 @@
-// Package lists makes, maps and changes lists, for all layers.
+// Package lists makes, maps, turns and changes lists, for all layers.
 package lists
+
+import "slices"
 
 // Map returns what each element of a list becomes.
 func Map[From, To any](list []From, to func(From) To) []To {
@@ -22,4 +24,21 @@ func Numbers(n int) []int {
 // Exchange exchanges an element of a list and the next one.
 func Exchange[T any](list []T, at int) {
 	list[at], list[at+1] = list[at+1], list[at]
+}
+
+// Reversed returns a list of its own with the elements in the other order.
+func Reversed[T any](list []T) []T {
+	reversed := slices.Clone(list)
+	slices.Reverse(reversed)
+	return reversed
+}
+
+// Rotated returns a list of its own whose elements are further on by any integer, and come in again at the beginning.
+func Rotated[T any](list []T, by int) []T {
+	length := len(list)
+	if length == 0 {
+		return nil
+	}
+	cut := (length - by%length) % length // the remainder is taken first: by may be the least int
+	return slices.Concat(list[cut:], list[:cut])
 }

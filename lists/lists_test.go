@@ -1,6 +1,7 @@
 package lists_test
 
 import (
+	"math"
 	"slices"
 	"strconv"
 	"testing"
@@ -36,5 +37,40 @@ func TestExchange(t *testing.T) {
 	lists.Exchange(list, 0)
 	if !slices.Equal(list, []string{"c", "a", "b"}) {
 		t.Error(list)
+	}
+}
+
+func TestReversed(t *testing.T) {
+	list := []string{"a", "b", "c"}
+	reversed := lists.Reversed(list)
+	if !slices.Equal(reversed, []string{"c", "b", "a"}) || len(lists.Reversed([]int(nil))) != 0 {
+		t.Error(reversed)
+	}
+	reversed[0] = "d"
+	if !slices.Equal(list, []string{"a", "b", "c"}) {
+		t.Error("the argument was changed:", list)
+	}
+}
+
+func TestRotated(t *testing.T) {
+	list := []int{1, 2, 3}
+	for _, example := range []struct {
+		by     int
+		wanted []int
+	}{
+		{0, []int{1, 2, 3}}, {1, []int{3, 1, 2}}, {2, []int{2, 3, 1}}, {3, []int{1, 2, 3}}, {-1, []int{2, 3, 1}}, {-4, []int{2, 3, 1}},
+		{math.MaxInt, []int{3, 1, 2}}, {math.MinInt, []int{3, 1, 2}}, {math.MinInt + 1, []int{2, 3, 1}},
+	} {
+		rotated := lists.Rotated(list, example.by)
+		if !slices.Equal(rotated, example.wanted) {
+			t.Error(example, rotated)
+		}
+		rotated[0] = 9
+		if !slices.Equal(list, []int{1, 2, 3}) {
+			t.Fatal("the argument was changed:", list)
+		}
+	}
+	if empty := lists.Rotated([]int(nil), 5); len(empty) != 0 {
+		t.Error(empty)
 	}
 }

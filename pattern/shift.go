@@ -66,7 +66,7 @@ func Slope(p [][]int) (int, api.Errno) {
 search:
 	for slope := range p[0] {
 		for above, row := range p[1:] {
-			if !slices.Equal(row, rotated(p[above], slope)) {
+			if !slices.Equal(row, lists.Rotated(p[above], slope)) {
 				continue search
 			}
 		}
@@ -91,14 +91,7 @@ func Cells(p [][]int) ([]int, api.Errno) {
 
 // shifted returns a picture of its own that is shifted by any integers.
 func shifted(p [][]int, down, right int) [][]int {
-	return rotated(lists.Map(p, func(row []int) []int { return rotated(row, right) }), down)
-}
-
-// rotated returns a list of its own whose elements are further on by any integer, and come in again at the beginning.
-func rotated[T any](list []T, by int) []T {
-	length := len(list)
-	cut := (length - by%length) % length // the remainder is taken first: by may be the least int
-	return slices.Concat(list[cut:], list[:cut])
+	return lists.Rotated(lists.Map(p, func(row []int) []int { return lists.Rotated(row, right) }), down)
 }
 
 // shifts goes through all pictures into which a picture can be shifted, in the lexicographic order of the shifts, first
