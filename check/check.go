@@ -1,4 +1,4 @@
-// Package check finds the first error of arguments, for all layers from yarn on.
+// Package check finds the first error of arguments, and the first rule that is broken, for all layers from yarn on.
 package check
 
 import (
@@ -52,6 +52,22 @@ func Positive(a api.Rat) api.Errno {
 // FromZero returns the error of a number that has to be from 0 on.
 func FromZero(a api.Rat) api.Errno {
 	return sign(a, 0)
+}
+
+// Part returns the error of a number that has to be from 0 to 1.
+func Part(a api.Rat) api.Errno {
+	order, e := number.Order(a, "1")
+	return First(e, FromZero(a), That(order <= 0, api.ErrRange))
+}
+
+// Broken returns the number, from 1 on, of the first of some rules that does not hold, or 0. A rule may rely on those before it.
+func Broken(rules ...func() bool) int {
+	for i, holds := range rules {
+		if !holds() {
+			return i + 1
+		}
+	}
+	return 0
 }
 
 // sign returns the error of a number whose sign (-1, 0 or 1) has to be at least one.

@@ -53,13 +53,35 @@ func TestName(t *testing.T) {
 
 func TestSigns(t *testing.T) {
 	for _, row := range []struct {
-		text               api.Rat
-		positive, fromZero api.Errno
+		text                     api.Rat
+		positive, fromZero, part api.Errno
 	}{
-		{"1", api.OK, api.OK}, {"1/7", api.OK, api.OK}, {"0", api.ErrRange, api.OK}, {"-1/7", api.ErrRange, api.ErrRange},
-		{"", api.ErrForm, api.ErrForm}, {"-2/4", api.ErrForm, api.ErrForm}, {api.Rat(strings.Repeat("9", 601)), api.ErrLarge, api.ErrLarge},
+		{"1", api.OK, api.OK, api.OK}, {"1/7", api.OK, api.OK, api.OK}, {"8/7", api.OK, api.OK, api.ErrRange}, {"2", api.OK, api.OK, api.ErrRange},
+		{"0", api.ErrRange, api.OK, api.OK}, {"-1/7", api.ErrRange, api.ErrRange, api.ErrRange}, {"-2", api.ErrRange, api.ErrRange, api.ErrRange},
+		{"", api.ErrForm, api.ErrForm, api.ErrForm}, {"-2/4", api.ErrForm, api.ErrForm, api.ErrForm}, {"4/2", api.ErrForm, api.ErrForm, api.ErrForm},
+		{api.Rat(strings.Repeat("9", 601)), api.ErrLarge, api.ErrLarge, api.ErrLarge},
 	} {
 		same(t, check.Positive(row.text), row.positive, row.text)
 		same(t, check.FromZero(row.text), row.fromZero, row.text)
+		same(t, check.Part(row.text), row.part, row.text)
+	}
+}
+
+func TestBroken(t *testing.T) {
+	asked := 0
+	rule := func(holds bool) func() bool {
+		return func() bool { asked++; return holds }
+	}
+	for _, example := range []struct {
+		rules         []func() bool
+		broken, asked int
+	}{
+		{nil, 0, 0}, {[]func() bool{rule(true)}, 0, 1}, {[]func() bool{rule(false)}, 1, 1}, {[]func() bool{rule(true), rule(true)}, 0, 2},
+		{[]func() bool{rule(true), rule(false), rule(false), rule(true)}, 2, 2},
+	} {
+		asked = 0
+		if broken := check.Broken(example.rules...); broken != example.broken || asked != example.asked {
+			t.Errorf("rule %d after %d are asked, want %d after %d", broken, asked, example.broken, example.asked)
+		}
 	}
 }

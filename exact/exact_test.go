@@ -145,6 +145,48 @@ func TestFractions(t *testing.T) {
 	}
 }
 
+func TestRootsOfFractions(t *testing.T) {
+	for _, row := range []struct{ a, low, high api.Rat }{
+		{"0", "0", "0"}, {"1", "1", "1"}, {"9/16", "3/4", "3/4"}, {"2", "707/500", "283/200"}, {"1/2", "707/1000", "177/250"}, {"1/10000000", "0", "1/1000"},
+		{"4/3", "577/500", "231/200"}, {"3/4", "433/500", "867/1000"}, {"1/1000000", "1/1000", "1/1000"},
+	} {
+		low, high := exact.Value(row.a).Root()
+		same(t, low.Compare(exact.Value(row.low)), 0, row)
+		same(t, high.Compare(exact.Value(row.high)), 0, row)
+	}
+	long := exact.Value(api.Rat(strings.Repeat("9", 600)))
+	low, high := long.Times(long).Root()
+	same(t, low.Compare(long), 0)
+	same(t, high.Compare(long), 0)
+	low, high = long.Times(long).Plus(exact.Ratio(1, 1)).Root()
+	same(t, low.Compare(long), 0)
+	same(t, high.Minus(long).Compare(exact.Ratio(1, 1000)), 0)
+}
+
+// fractions returns the quotients of some integers by others.
+func fractions() []*big.Rat {
+	var list []*big.Rat
+	for i, x := range integers() {
+		for k, y := range integers() {
+			if y.Sign() > 0 && (i+k)%5 == 0 {
+				list = append(list, new(big.Rat).SetFrac(x, y))
+			}
+		}
+	}
+	return list
+}
+
+func TestProducts(t *testing.T) {
+	for _, x := range fractions() {
+		for _, y := range fractions() {
+			product := exact.Value(api.Rat(x.RatString())).Times(exact.Value(api.Rat(y.RatString())))
+			got, e := exact.Write(product)
+			same(t, e, api.OK, x, y)
+			same(t, got, api.Rat(new(big.Rat).Mul(x, y).RatString()), x, y)
+		}
+	}
+}
+
 func TestSigns(t *testing.T) {
 	for _, row := range []struct {
 		top, bottom int

@@ -86,12 +86,26 @@ func (a Fraction) Minus(b Fraction) Fraction {
 
 // Times returns the product.
 func (a Fraction) Times(b Fraction) Fraction {
-	return Quotient(a.top.Times(b.top), a.Bottom().Times(b.Bottom()))
+	// What is common is divided out before the products are made: with a short number this is fast, however long the other one is.
+	left, right := Quotient(a.top, b.Bottom()), Quotient(b.top, a.Bottom())
+	return Fraction{left.top.Times(right.top), left.Bottom().Times(right.Bottom()).size}
 }
 
 // Over returns the quotient; it is 0 if b is 0.
 func (a Fraction) Over(b Fraction) Fraction {
 	return Quotient(a.top.Times(b.Bottom()), b.top.Times(a.Bottom()))
+}
+
+// Root returns the square root of a number from 0 on, as both ends, if it is a number; otherwise the thousandths next to it.
+func (a Fraction) Root() (low, high Fraction) {
+	// In lowest terms the root is a number only if both parts are squares.
+	root := Quotient(a.top.Root(), a.Bottom().Root())
+	if root.Times(root).Compare(a) == 0 {
+		return root, root
+	}
+	const parts = 1000
+	units := a.Times(Ratio(parts*parts, 1)).Floor().Root()
+	return Quotient(units, IntegerOf(parts)), Quotient(units.Plus(IntegerOf(1)), IntegerOf(parts))
 }
 
 // Compare returns -1, 0 or 1 if a is less than, equal to, or greater than b.

@@ -74,11 +74,8 @@ func Root(a api.Rat) (api.Span, api.Errno) {
 	if x.Top().IsNegative() {
 		return api.Span{}, api.ErrRange
 	}
-	if root, ok := exactRoot(x); ok {
-		return writeSpan(interval{root, root})
-	}
-	thousandths := x.Times(exact.Whole(exact.IntegerOf(1_000_000))).Floor().Root()
-	return writeSpan(decimalSpan(thousandths, 3))
+	low, high := x.Root()
+	return writeSpan(interval{low, high})
 }
 
 // Pi returns a span that contains pi, with k decimals.
@@ -100,12 +97,6 @@ func decimalSpan(units exact.Integer, decimals int) interval {
 func integerOfDigits(digits string) exact.Integer {
 	value, _ := exact.Read(api.Rat(digits))
 	return value.Top()
-}
-
-// exactRoot returns the root of a number from 0 on, if it is a number. In lowest terms it is one only if both parts are squares.
-func exactRoot(a exact.Fraction) (exact.Fraction, bool) {
-	root := exact.Quotient(a.Top().Root(), a.Bottom().Root())
-	return root, root.Times(root).Compare(a) == 0
 }
 
 func combineSpans(a, b api.Span, operation func(x, y exact.Fraction) exact.Fraction) (api.Span, api.Errno) {

@@ -122,19 +122,9 @@ func follow(s []int, l []Move) ([]int, api.Errno) {
 // refusing returns the number of the rule that refuses a move.
 func refusing(s []int, m Move) int {
 	isSlot := func(at int) bool { return at >= 0 && at < len(s) }
-	return firstBroken(
+	return check.Broken(
 		func() bool { return isSlot(m.From) && isSlot(m.To) },
 		func() bool { return s[m.From] != free },
 		func() bool { return s[m.To] == free },
 	)
-}
-
-// firstBroken returns the number of the first of some rules that does not hold. A rule may rely on those before it.
-func firstBroken(rules ...func() bool) int {
-	for i, holds := range rules {
-		if !holds() {
-			return i + 1
-		}
-	}
-	return legal
 }

@@ -15,7 +15,7 @@ func checkDye(dye string) api.Errno {
 
 // checkFactor returns the error of a factor of a ply.
 func checkFactor(factor api.Rat) api.Errno {
-	return check.First(check.Positive(factor), check.That(isAtMost(factor, "1"), api.ErrRange))
+	return check.First(check.Positive(factor), check.Part(factor))
 }
 
 // checkStrength returns the first error of a table of strengths.
