@@ -1,4 +1,4 @@
-// Package lists makes, maps, turns and changes lists, for all layers.
+// Package lists makes, maps, sums up, turns and changes lists, for all layers.
 package lists
 
 import "slices"
@@ -19,6 +19,15 @@ func Numbers(n int) []int {
 		numbers[i] = i
 	}
 	return numbers
+}
+
+// Sum returns the sum of numbers.
+func Sum[N int | int64](numbers []N) N {
+	var sum N
+	for _, x := range numbers {
+		sum += x
+	}
+	return sum
 }
 
 // Exchange exchanges an element of a list and the next one.

@@ -31,6 +31,19 @@ func TestNumbers(t *testing.T) {
 	}
 }
 
+func TestSum(t *testing.T) {
+	list := []int{3, -1, 3}
+	if sum := lists.Sum(list); sum != 5 || !slices.Equal(list, []int{3, -1, 3}) {
+		t.Error(sum, list)
+	}
+	if sum := lists.Sum([]int64{math.MaxInt32, math.MaxInt32}); sum != 4294967294 {
+		t.Error(sum)
+	}
+	if lists.Sum([]int(nil)) != 0 || lists.Sum([]int{7}) != 7 {
+		t.Error(lists.Sum([]int(nil)), lists.Sum([]int{7}))
+	}
+}
+
 func TestExchange(t *testing.T) {
 	list := []string{"a", "b", "c"}
 	lists.Exchange(list, 1)

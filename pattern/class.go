@@ -71,11 +71,7 @@ func checkBobbins(n int, bobbins []int) api.Errno {
 	if e != api.OK {
 		return e
 	}
-	sum := 0
-	for _, count := range bobbins {
-		sum += count
-	}
-	return check.That(sum == n, api.ErrShape)
+	return check.That(lists.Sum(bobbins) == n, api.ErrShape)
 }
 
 // moved returns the colours that strands have after a permutation of their places.

@@ -53,7 +53,7 @@ func Knots(n Net) (int, api.Errno) {
 	if e != api.OK {
 		return 0, e
 	}
-	return sumOf(meshes[1:]), api.OK
+	return lists.Sum(meshes[1:]), api.OK
 }
 
 // Twine returns the length of twine for a net.
@@ -63,8 +63,8 @@ func Twine(n Net, side, knot api.Rat) (api.Rat, api.Errno) {
 		return "", e
 	}
 	// The sum may have fewer digits than what it is made of.
-	sides := exact.Value(side).Times(exact.Ratio(2*sumOf(meshes), 1))
-	knots := exact.Value(knot).Times(exact.Ratio(sumOf(meshes[1:]), 1))
+	sides := exact.Value(side).Times(exact.Ratio(2*lists.Sum(meshes), 1))
+	knots := exact.Value(knot).Times(exact.Ratio(lists.Sum(meshes[1:]), 1))
 	return exact.Write(sides.Plus(knots))
 }
 
@@ -110,12 +110,4 @@ func evenMeshes(first, last, rows, after int) int {
 // rowBetween returns the row that leads from some meshes to others.
 func rowBetween(before, meshes int) Row {
 	return Row{More: max(meshes-before, 0), Less: max(before-meshes, 0)}
-}
-
-func sumOf(numbers []int) int {
-	sum := 0
-	for _, x := range numbers {
-		sum += x
-	}
-	return sum
 }

@@ -3,6 +3,7 @@ package yarn
 import (
 	"becket/api"
 	"becket/check"
+	"becket/lists"
 )
 
 // Free returns what is free of a lot.
@@ -67,7 +68,7 @@ search:
 	for size := range len(amounts) + 1 {
 		for leftOut := range 1 << len(amounts) {
 			chosen = members(leftOut, len(amounts))
-			if len(chosen) == size && sumOf(pick(amounts, chosen)) >= amount {
+			if len(chosen) == size && lists.Sum(pick(amounts, chosen)) >= amount {
 				break search
 			}
 		}
@@ -93,12 +94,4 @@ func pick(list, places []int) []int {
 		picked[i] = list[place]
 	}
 	return picked
-}
-
-func sumOf(amounts []int) int {
-	sum := 0
-	for _, amount := range amounts {
-		sum += amount
-	}
-	return sum
 }
