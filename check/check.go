@@ -26,6 +26,19 @@ func Each[T any](list []T, check func(T) api.Errno) api.Errno {
 	return api.OK
 }
 
+// Ascending returns the error of the first element with one, which is ErrOrder if it does not ascend after the one before it.
+func Ascending[T any](list []T, check func(T) api.Errno, ascends func(before, next T) bool) api.Errno {
+	for i, element := range list {
+		if e := check(element); e != api.OK {
+			return e
+		}
+		if i > 0 && !ascends(list[i-1], element) {
+			return api.ErrOrder
+		}
+	}
+	return api.OK
+}
+
 // That returns the error of a condition that does not hold.
 func That(holds bool, e api.Errno) api.Errno {
 	if holds {

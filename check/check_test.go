@@ -33,6 +33,20 @@ func TestEach(t *testing.T) {
 	same(t, check.Each(nil, func(x int) api.Errno { return api.ErrForm }), api.OK)
 }
 
+func TestAscending(t *testing.T) {
+	own := func(x int) api.Errno { return check.That(x < 10, api.ErrForm) }
+	ascends := func(before, next int) bool { return next > before }
+	for _, example := range []struct {
+		list []int
+		e    api.Errno
+	}{
+		{nil, api.OK}, {[]int{5}, api.OK}, {[]int{-5, 0, 9}, api.OK}, {[]int{10}, api.ErrForm}, {[]int{1, 2, 10, 0}, api.ErrForm}, {[]int{1, 1}, api.ErrOrder}, {[]int{2, 1, 10}, api.ErrOrder},
+		{[]int{11, 10}, api.ErrForm}, {[]int{3, 4, 4}, api.ErrOrder},
+	} {
+		same(t, check.Ascending(example.list, own, ascends), example.e, example.list)
+	}
+}
+
 func TestRange(t *testing.T) {
 	for _, value := range []int{2, 3, 5} {
 		same(t, check.Range(value, 2, 5), api.OK, value)

@@ -1,4 +1,4 @@
-// Package lists makes, maps, sums up, turns and changes lists, for all layers.
+// Package lists makes, maps, filters, searches, sums up, turns and changes lists, for all layers.
 package lists
 
 import "slices"
@@ -10,6 +10,39 @@ func Map[From, To any](list []From, to func(From) To) []To {
 		result[i] = to(element)
 	}
 	return result
+}
+
+// Filter returns a list of its own with the elements that are kept.
+func Filter[T any](list []T, keep func(T) bool) []T {
+	var kept []T
+	for _, element := range list {
+		if keep(element) {
+			kept = append(kept, element)
+		}
+	}
+	return kept
+}
+
+// Find returns the first element of a list that has a key, or the zero value and false.
+func Find[T any, K comparable](list []T, key K, keyOf func(T) K) (T, bool) {
+	for _, element := range list {
+		if keyOf(element) == key {
+			return element, true
+		}
+	}
+	return *new(T), false
+}
+
+// Put returns a copy of an ascending list with an element in its place, instead of one that is as great.
+func Put[T any](list []T, element T, order func(a, b T) int) []T {
+	changed := make([]T, len(list), len(list)+1)
+	copy(changed, list)
+	place, found := slices.BinarySearchFunc(changed, element, order)
+	if found {
+		changed[place] = element
+		return changed
+	}
+	return slices.Insert(changed, place, element)
 }
 
 // Numbers returns the numbers from 0 to n - 1, in their order.

@@ -25,6 +25,56 @@ func TestMap(t *testing.T) {
 	}
 }
 
+func TestFilter(t *testing.T) {
+	list := []int{3, -1, 4, -1}
+	negative := lists.Filter(list, func(element int) bool { return element < 0 })
+	if !slices.Equal(negative, []int{-1, -1}) || !slices.Equal(list, []int{3, -1, 4, -1}) {
+		t.Error(negative, list)
+	}
+	all := lists.Filter(list, func(int) bool { return true })
+	all[0] = 9
+	if list[0] != 3 {
+		t.Error("the list of the results has the memory of the argument")
+	}
+	if none := lists.Filter(list, func(int) bool { return false }); len(none) != 0 {
+		t.Error(none)
+	}
+}
+
+func TestFind(t *testing.T) {
+	list := []string{"one", "two", "three", "four"}
+	for key, wanted := range map[int]string{3: "one", 5: "three", 4: "four", 9: ""} {
+		element, found := lists.Find(list, key, func(element string) int { return len(element) })
+		if element != wanted || found != (wanted != "") {
+			t.Error(key, element, found)
+		}
+	}
+	if element, found := lists.Find(nil, 1, func(element int) int { return element }); element != 0 || found {
+		t.Error(element, found)
+	}
+}
+
+func TestPut(t *testing.T) {
+	byTens := func(a, b int) int { return a/10 - b/10 }
+	list := []int{11, 22, 44}
+	for element, wanted := range map[int][]int{
+		5: {5, 11, 22, 44}, 15: {15, 22, 44}, 29: {11, 29, 44}, 33: {11, 22, 33, 44}, 40: {11, 22, 40}, 50: {11, 22, 44, 50},
+	} {
+		changed := lists.Put(append(make([]int, 0, 9), list...), element, byTens)
+		if !slices.Equal(changed, wanted) {
+			t.Error(element, changed)
+		}
+		changed = lists.Put(list, element, byTens)
+		changed[0] = 9
+		if !slices.Equal(list, []int{11, 22, 44}) {
+			t.Fatal("the argument was changed:", list)
+		}
+	}
+	if first := lists.Put(nil, 7, byTens); !slices.Equal(first, []int{7}) {
+		t.Error(first)
+	}
+}
+
 func TestNumbers(t *testing.T) {
 	if !slices.Equal(lists.Numbers(4), []int{0, 1, 2, 3}) || len(lists.Numbers(0)) != 0 {
 		t.Error(lists.Numbers(4), lists.Numbers(0))

@@ -26,15 +26,11 @@ func checkStrength(table []api.Point) api.Errno {
 	if len(table) > api.MaxList {
 		return api.ErrMany
 	}
-	for i, point := range table {
-		if e := check.First(check.FromZero(point.X), check.FromZero(point.Y)); e != api.OK {
-			return e
-		}
-		if i > 0 && isAtMost(point.X, table[i-1].X) {
-			return api.ErrOrder
-		}
-	}
-	return api.OK
+	return check.Ascending(
+		table,
+		func(point api.Point) api.Errno { return check.First(check.FromZero(point.X), check.FromZero(point.Y)) },
+		func(before, next api.Point) bool { return !isAtMost(next.X, before.X) },
+	)
 }
 
 // checkYarns returns the first error of the yarns of a ply.

@@ -7,6 +7,7 @@ import (
 
 	"becket/api"
 	"becket/check"
+	"becket/lists"
 )
 
 // The limits of the chapter.
@@ -152,13 +153,7 @@ func Until(l []Entry, day int) (State, api.Errno) {
 	if e := check.First(CheckLog(l), check.Range(day, 0, api.MaxDay)); e != api.OK {
 		return State{}, e
 	}
-	var early []Entry
-	for _, e := range l {
-		if e.Day <= day {
-			early = append(early, e)
-		}
-	}
-	state, _ := replay(early)
+	state, _ := replay(lists.Filter(l, func(e Entry) bool { return e.Day <= day }))
 	return state, api.OK
 }
 
@@ -218,44 +213,22 @@ func lotFor(s State, e Entry) (Lot, bool) {
 
 // lotsWith returns the lots with one that is new, or in the place of the one with its name.
 func lotsWith(lots []Lot, lot Lot) []Lot {
-	return put(lots, lot, func(a, b Lot) int { return strings.Compare(a.Name, b.Name) })
+	return lists.Put(lots, lot, func(a, b Lot) int { return strings.Compare(a.Name, b.Name) })
 }
 
 // holdsWith returns the holds with one that is new, or in the place of the one with its claim; without it if it holds nothing.
 func holdsWith(holds []Hold, hold Hold) []Hold {
-	changed := put(holds, hold, func(a, b Hold) int { return compareClaims(claimOf(a), claimOf(b)) })
+	changed := lists.Put(holds, hold, func(a, b Hold) int { return compareClaims(claimOf(a), claimOf(b)) })
 	return slices.DeleteFunc(changed, func(h Hold) bool { return h.Reserved == 0 && h.Taken == 0 })
 }
 
-// put returns a copy of an ascending list with an element in its place, instead of one that is as great.
-func put[T any](list []T, element T, order func(a, b T) int) []T {
-	changed := make([]T, len(list), len(list)+1)
-	copy(changed, list)
-	place, found := slices.BinarySearchFunc(changed, element, order)
-	if found {
-		changed[place] = element
-		return changed
-	}
-	return slices.Insert(changed, place, element)
-}
-
-// find returns the element of a list that has a key, or the zero value and false.
-func find[T any, K comparable](list []T, key K, keyOf func(T) K) (T, bool) {
-	for _, element := range list {
-		if keyOf(element) == key {
-			return element, true
-		}
-	}
-	return *new(T), false
-}
-
 func lotNamed(s State, name string) (Lot, bool) {
-	return find(s.Lots, name, func(l Lot) string { return l.Name })
+	return lists.Find(s.Lots, name, func(l Lot) string { return l.Name })
 }
 
 // holdOf returns the hold with a claim, which holds nothing if there is none yet.
 func holdOf(s State, c claim) Hold {
-	hold, found := find(s.Holds, c, claimOf)
+	hold, found := lists.Find(s.Holds, c, claimOf)
 	if !found {
 		hold = Hold{Lot: c.lot, Order: c.order}
 	}
